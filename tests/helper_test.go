@@ -33,6 +33,24 @@ func wantText(t *testing.T, what string, got string, ok bool, want string, wantO
 	}
 }
 
+// numbers gives numbers from 0 on below a limit, all of one seed the same ones each time.
+type numbers struct{ seed uint64 }
+
+func (n *numbers) below(limit int) int {
+	n.seed = n.seed*6364136223846793005 + 1442695040888963407
+	return int(n.seed>>33) % limit
+}
+
+// overBytes is a text that lies in the bytes that are given, so that they can be looked at behind a call.
+func overBytes(b []byte) string {
+	return unsafe.String(unsafe.SliceData(b), len(b))
+}
+
+// bytesUnder are the bytes that a text lies in; they are only looked at.
+func bytesUnder(s string) []byte {
+	return unsafe.Slice(unsafe.StringData(s), len(s))
+}
+
 // shares tells whether an answer lies in the memory of an argument.
 func shares(answer string, arg []byte) bool {
 	if len(answer) == 0 || len(arg) == 0 {
