@@ -63,7 +63,7 @@ func (b geoBook) step(s impl.GeoStep) (geoBook, bool) {
 	case s.Kind == 3 && isPlain && b.up == bothUp && b.whole && len(b.waiting()) > 0:
 		b.common = b.waiting()[0]
 		b.place[o] = wholeAlone(b.place[a], b.common)
-	case s.Kind == 4 && isPlain:
+	case s.Kind == 4 && isPlain && b.up[a]:
 		b.up[a] = false
 	case s.Kind == 5 && isPlain && !b.up[a] && b.up[o] && b.whole && b.turn < 100:
 		b.active, b.turn, b.whole = o, b.turn+1, false
@@ -143,7 +143,7 @@ func ruleGeoStep(g impl.Geo, s impl.GeoStep) (impl.Geo, bool) {
 	case s.Kind == 3 && isPlain && both && g.Whole && len(ruleWaiting(g)) > 0:
 		g.Common = ruleWaiting(g)[0]
 		g.Place[o] = ruleAlone(g.Place[a], g.Common)
-	case s.Kind == 4 && isPlain:
+	case s.Kind == 4 && isPlain && g.Up[a]:
 		g.Up[a] = false
 	case s.Kind == 5 && isPlain && !g.Up[a] && g.Up[o] && g.Whole && g.Turn < 100:
 		g.Active, g.Turn, g.Whole = o, g.Turn+1, false
@@ -652,7 +652,7 @@ func TestGeoStepsOfEveryUpWholeAndTurn(t *testing.T) {
 			g := withUp(withTurn(plainGeo(), turn), a, o)
 			g.Whole = whole
 			for s, want := range map[impl.GeoStep]bool{
-				geWrite(3, "xy"): a, geMark: a, geCopy: a && o && whole, geFail: true,
+				geWrite(3, "xy"): a, geMark: a, geCopy: a && o && whole, geFail: a,
 				geTake: !a && o && whole && turn < 100, geHome: a && o && !whole, geBack: !a || !o,
 			} {
 				if _, ok := impl.StepGeo(g, s); ok != want {
@@ -806,8 +806,7 @@ func TestGeoFailsKnownByHand(t *testing.T) {
 		for _, other := range []bool{true, false} {
 			down := withUp(g, false, other)
 			wantGeoDone(t, withUp(g, true, other), geFail, down)
-			// Once more it changes nothing.
-			wantGeoDone(t, down, geFail, down)
+			wantGeoRefused(t, down, geFail)
 		}
 	}
 }
@@ -1173,6 +1172,17 @@ func TestGeoPlayKnownByHand(t *testing.T) {
 	wantPlayOne(t, l[:25], did[:25], blocksOf("4=ij"), blocksOf("3=ab"), true)
 }
 
+// A place that is not up can't fail: StepGeo is false where nothing can be done.
+func TestGeoFailsOnceUntilItIsBack(t *testing.T) {
+	l := []impl.GeoStep{geFail, geFail, geTake, geFail, geFail, geBack, geFail, geFail}
+	did := []bool{true, false, true, true, false, true, true, false}
+	want := impl.Geo{Place: []impl.Marks{emptyLayers(0, 1), emptyLayers(0, 1)}, Up: []bool{true, false}, Active: 1, Turn: 1}
+	wantPlayedGeo(t, l, want, did)
+	want.Up[0] = false
+	wantPlayedGeo(t, l[:5], want, did[:5])
+	wantPlayOne(t, l, did, blocksOf(), blocksOf(), true)
+}
+
 // Both have failed: nobody is up until both are back, and the one that was active still is.
 func TestBothPlacesFail(t *testing.T) {
 	l := []impl.GeoStep{geWrite(3, "ab"), geMark, geCopy, geWrite(3, "cd"), geFail, geTake, geWrite(4, "ef"), geFail, geTake, geWrite(4, "gh"), geMark, geBack, geWrite(5, "ij")}
@@ -1202,6 +1212,8 @@ func TestGeoPlaysOfEveryManySteps(t *testing.T) {
 		wantRefusedGeoPlay(t, make([]impl.GeoStep, many))
 		wantRefusedGeoPlay(t, slices.Repeat([]impl.GeoStep{geFail}, many))
 	}
+	// A place that is not up can't fail: the first of them alone is done.
+	wantPlayedGeo(t, slices.Repeat([]impl.GeoStep{geFail}, 80), withUp(impl.NewGeo(), false, true), append([]bool{true}, make([]bool, 79)...))
 	// One takes over as often as can be: a failing one, and both back home.
 	l := slices.Repeat([]impl.GeoStep{geFail, geTake, geBack, geHome}, 20)
 	wantPlayedGeo(t, l, withTurn(impl.NewGeo(), 20), trues(80))
